@@ -1,0 +1,1 @@
+"""Labelgrid: a spreadsheet of many users with labels on every cell."""

@@ -63,6 +63,14 @@ class AddressTest(unittest.TestCase):
         for text in ["A2", "E4", "B1", "B5", "A1", "E5"]:
             self.assertFalse(inside(parse_address(text), area), text)
 
+    def test_inside_is_being_among_the_addresses(self):
+        source = source_of(4)
+        for _ in range(100):
+            area = random_range(source, 8, 8)
+            cells = cells_of(area)
+            for address in cells_of(((0, 0), (8, 8))):
+                self.assertEqual(inside(address, area), address in cells)
+
 
 class PartsTest(unittest.TestCase):
     def test_common(self):

@@ -106,7 +106,7 @@ class WrongTest(unittest.TestCase):
         self.check_told("rule", [("unrule", 0), ("unrule", 2), ("unrule", -1), ("unrule", 7)])
 
     def test_grant(self):
-        self.check_told("grant", [("grant", REVOKED), ("revoke", 2, True), ("revoke", -1, True), ("revoke", 2, False),
+        self.check_told("grant", [("grant", REVOKED), ("revoke", 2, True), ("revoke", -1, True), ("revoke", -1, False), ("revoke", 2, False),
                                   ("revoke", 0, False), ("revoke", 1, True)])
 
     def test_nothing_is_done_when_a_later_edit_does_not_fit(self):

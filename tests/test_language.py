@@ -5,6 +5,7 @@ import builtins
 import pathlib
 import re
 import unittest
+import warnings
 
 PACKAGE = pathlib.Path(__file__).resolve().parent.parent / "labelgrid"
 ALLOWED = """len range enumerate zip min max sum abs sorted reversed int str bool bytes list tuple dict set frozenset isinstance
@@ -57,6 +58,12 @@ class LanguageTest(unittest.TestCase):
             lines = data.decode().splitlines()
             self.assertLessEqual(len(lines), 399, path.name)
             self.assertLessEqual(max(len(line) for line in lines), 120, path.name)
+
+    def test_no_line_gives_a_warning(self):
+        for path in files():
+            with warnings.catch_warnings():
+                warnings.simplefilter("error")
+                compile(path.read_text(), path.name, "exec")
 
     def test_lengths_of_functions(self):
         for name, tree in trees():

@@ -142,6 +142,11 @@ class ToldTest(Told):
         self.check_told({"ABS(" * 20 + "1" + ")" * 20: 80, "SUM(" * 20 + "A1:B2" + ")" * 20: 80,
                          "SUM(" * 20 + "1,2" + ")" * 20: 80, "ABS(" * 20: 80, "ABS(" * 20 + ")": 80})
 
+    def test_nesting_of_later_arguments(self):
+        parsed("SUM(1," + "ABS(" * 18 + "1" + ")" * 19)
+        parsed("SUM(1,A1:B2,2," + "-" * 18 + "1)")
+        self.check_told({"SUM(1," + "ABS(" * 19 + "1" + ")" * 20: 82, "SUM(1,2," + "-" * 19 + "1)": 27})
+
     def test_nesting_of_all_kinds(self):
         parsed("-(ABS(" * 6 + "-1" + "))" * 6)
         parsed("-(ABS(" * 6 + "-1*2" + "))" * 6 + "+(1)")

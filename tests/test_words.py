@@ -27,6 +27,7 @@ class TokensTest(unittest.TestCase):
         self.assertEqual(tokens_of("A1+12", 0), [("ref", (0, 0), 0), ("sign", "+", 2), ("num", 120000, 3)])
         self.assertEqual(tokens_of("1A1", 0), [("num", 10000, 0), ("ref", (0, 0), 1)])
         self.assertEqual(tokens_of("A1:B2", 0), [("ref", (0, 0), 0), ("sign", ":", 2), ("ref", (1, 1), 3)])
+        self.assertEqual(tokens_of("1Q", 0), [("num", 10000, 0), ("word", "Q", 1)])
         self.assertEqual(tokens_of("#REFA1", 0), [("lost", "#REF", 0), ("ref", (0, 0), 4)])
 
     def test_from_an_index_on(self):

@@ -208,7 +208,7 @@ def _show_part(part):
     return f"{part[1]}({args})"
 
 
-def _inner_parts(tree):
+def inner_parts(tree):
     """Return the trees and ranges directly inside of a tree, which are not copied."""
     if tree[0] in RANKS:
         return [tree[1], tree[2]]
@@ -221,7 +221,7 @@ def _inner_parts(tree):
 
 def parts_of(tree):
     """Return the list of the trees and ranges directly inside of a tree."""
-    return [_copied(part) for part in _inner_parts(tree)]
+    return [_copied(part) for part in inner_parts(tree)]
 
 
 def calls_of(tree):
@@ -232,7 +232,7 @@ def calls_of(tree):
         part = waiting.pop()
         if part[0] == "call":
             calls.append(_copied(part))
-        waiting.extend(_inner_parts(part)[::-1])
+        waiting.extend(inner_parts(part)[::-1])
     return calls
 
 

@@ -3,9 +3,10 @@
 import copy
 import random
 
-from labelgrid.addresses import SHEET
+from labelgrid.addresses import SHEET, show_address, show_range
 from labelgrid.edits import apply_edit, empty_book
 from labelgrid.errors import EditError
+from tests import spelled
 
 SIGNS = ["+", "-", "*", "/", "&", "=", "!=", "<", "<="]
 TEXTS = ["1", "2.5", "-3", "TRUE", "FALSE", "ab", "", "0"]
@@ -120,6 +121,80 @@ def boxes_in(value):
         for item in value:
             found.update(boxes_in(item))
     return found
+
+
+def small_area(source, columns, rows):
+    """The text of a range of a small sheet, or of an address."""
+    area = random_range(source, columns, rows)
+    return show_range(area) if source.random() < 0.7 else show_address(area[0])
+
+
+def small_part(source, columns, rows):
+    """The text of a part of a formula on a small sheet."""
+    kind = source.randrange(8)
+    area = small_area(source, columns, rows)
+    address = show_address((source.randrange(columns), source.randrange(rows)))
+    if kind < 2:
+        return address
+    if kind == 2:
+        return source.choice(["1", "2.5", '"ab"', "TRUE", "#REF", f"-{address}", "RSUM(#REF)"])
+    if kind == 3:
+        return f"SUM({area})"
+    if kind == 4:
+        return f"IF({address}<2,{address},{small_part(source, columns, rows)})"
+    if kind == 5:
+        return f"MAX({address},RSUM({area}),{area})"
+    return f"{source.choice(['RSUM', 'RMAX', 'RCOUNT'])}({area})"
+
+
+def small_text(source, columns, rows, constants):
+    """An entry on a small sheet, one of so many hundreds a constant."""
+    if source.randrange(100) < constants:
+        return source.choice(["1", "-2", "7.25", "abc", "'", "TRUE", "0"])
+    parts = [small_part(source, columns, rows) for _ in range(source.randrange(1, 3))]
+    return "=" + source.choice(["+", "*", "&", "<"]).join(parts)
+
+
+def small_entries(source, columns, rows, constants=50, share=60):
+    """Entries on a small sheet; so many hundreds of the addresses have one."""
+    cells = [(column, row) for row in range(rows) for column in range(columns)]
+    source.shuffle(cells)
+    return {cell: small_text(source, columns, rows, constants) for cell in cells if source.randrange(100) < share}
+
+
+def users_from(source, count, share=0.7):
+    return [user for user in range(count) if source.random() < share]
+
+
+def small_rule(source, users, columns, rows):
+    lists = [users_from(source, users) for _ in range(3)]
+    return (random_range(source, columns, rows), lists[0], lists[1], lists[2])
+
+
+def called_areas(entries):
+    """The ranges of the released calls in entries."""
+    areas = [area for cell in entries if spelled.formula(entries, cell) is not None
+             for area, _, function in spelled.uses(spelled.formula(entries, cell)) if function is not None]
+    return areas or [((0, 0), (0, 0))]
+
+
+def small_grant(source, users, areas):
+    """A grant of the range of a call, or nearly."""
+    functions = [name for name in spelled.RELEASED if source.random() < 0.6] or ["RSUM"]
+    to = users_from(source, users, 0.6)
+    return (source.choice(areas), functions, to, source.randrange(users), source.random() < 0.15)
+
+
+def small_book(source, columns=4, rows=4, users=3, constants=50):
+    """A book on a small sheet with rules, and grants of ranges that are called."""
+    entries = small_entries(source, columns, rows, constants)
+    authors = {cell: source.randrange(users) for cell in entries}
+    everybody = list(range(users))
+    rules = [(SHEET, everybody, everybody, users_from(source, users, 0.9))]
+    rules += [small_rule(source, users, columns, rows) for _ in range(source.randrange(4))]
+    areas = called_areas(entries)
+    grants = [small_grant(source, users, areas) for _ in range(source.randrange(5))]
+    return ("book", users, entries, authors, rules, grants)
 
 
 def check_pure(test, function, *args):

@@ -1,7 +1,7 @@
 """The graph of what formula cells use."""
 
-from labelgrid.addresses import SHEET
-from labelgrid.cellsets import bit_of, cells_in, first_in, has_cell, mask_of, mask_of_all
+from labelgrid.addresses import SHEET, inside
+from labelgrid.cellsets import bit_of, cells_in, first_in, mask_of, mask_of_all
 from labelgrid.paths import spread
 
 
@@ -15,8 +15,8 @@ class Graph:
         self._cells = 0
         # For each column and each row the set of the formula cells that use an address in it: so those that use
         # an address are found without going through all of them.
-        self._by_column = [0 for _ in range(SHEET[1][0] + 1)]
-        self._by_row = [0 for _ in range(SHEET[1][1] + 1)]
+        self._by_column = [0] * (SHEET[1][0] + 1)
+        self._by_row = [0] * (SHEET[1][1] + 1)
 
     def put(self, address, ranges):
         """Make an address a formula cell that uses some ranges, instead of what it used before."""
@@ -48,7 +48,7 @@ class Graph:
 
     def uses(self, address, other):
         """Return whether an address is a formula cell that uses another address."""
-        return has_cell(self.used_cells(address), other)
+        return any([inside(other, area) for area in self.ranges.get(address, [])])
 
     def users_of(self, area):
         """Return the list of the formula cells that use an address of a range."""

@@ -1,10 +1,9 @@
 """The words of the document, spelled out slowly with sets, to test the program against them."""
 
-from labelgrid.addresses import SHEET, cells_of
+from labelgrid.addresses import cells_of
 from labelgrid.entries import parse_entry
 from labelgrid.evaluating import evaluate
 
-WHOLE = frozenset(cells_of(SHEET))
 OPERATORS = ["+", "-", "*", "/", "&", "=", "!=", "<", "<="]
 RELEASED = ["RSUM", "RCOUNT", "RAVG", "RMIN", "RMAX"]
 
@@ -111,7 +110,8 @@ def values(entries):
 
 
 def inside(address, area):
-    return address in cells_of(area)
+    (left, top), (right, bottom) = area
+    return address[0] in range(left, right + 1) and address[1] in range(top, bottom + 1)
 
 
 def rule_of(book, address):

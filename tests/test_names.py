@@ -89,6 +89,9 @@ class NamedTest(unittest.TestCase):
         self.check({"= C1  *( 2.50 )": "= rate  *( 2.50 )", '="C1"&C1&"A1:B9"': '="C1"&rate&"A1:B9"', "=1": "=1",
                     "=#REF+-C1": "=#REF+-rate", '="say ""C1"""': '="say ""C1"""', "=SUM( A1:B9 , 1)": "=SUM( all , 1)"})
 
+    def test_entries_that_are_no_formulas(self):
+        self.check({"": "", "'C1": "'C1", "text A1:B9": "text A1:B9", "5": "5"})
+
     def test_several_names_of_one_range(self):
         self.check({"=SUM(G1:G2)": "=SUM(also)", "=H1": "=another"})
         self.assertEqual(named("=SUM(A1:B1)", ranges_of({"b": "A1:B1", "a.c": "A1:B1", "ab": "A1:B1"})), "=SUM(a.c)")

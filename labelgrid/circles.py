@@ -129,8 +129,9 @@ def work_order(graph, cells):
 
 def circle_of(graph, address):
     """Return a circle through a formula cell with as few cells as possible, beginning with it, or None."""
-    path = first_path(address, bit_of(address), graph.formula_set(), lambda cell: graph.used_cells(cell))
-    return None if path is None else path[:-1]
+    used = graph.used_cells(address)
+    path = first_path(used, bit_of(address), graph.formula_set(), lambda cell: graph.used_cells(cell))
+    return None if path is None else [address] + path[:-1]
 
 
 def circle_right(graph, circle):

@@ -25,3 +25,8 @@ def edit_copy(edit):
 def address_dict_copy(table):
     """Return a copy of a dict from addresses to texts or users."""
     return {address: table[address] for address in table}
+
+
+def deed_copy(deed):
+    """Return a copy of a deed."""
+    return tuple([list(part) if isinstance(part, list) else part for part in deed])

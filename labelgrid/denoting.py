@@ -1,8 +1,10 @@
 """The values of all addresses, from their entries."""
 
+from labelgrid.addresses import cells_of
 from labelgrid.circles import sorted_out
 from labelgrid.entries import parse_entry
 from labelgrid.evaluating import evaluate
+from labelgrid.functions import apply_function
 from labelgrid.graph import Graph
 from labelgrid.uses import used_ranges
 
@@ -43,3 +45,9 @@ def denote(entries):
     for address in order:
         keep_value(values, address, evaluate(parsed[address][1], values))
     return values
+
+
+def released_value(function, area, values):
+    """Return the value of a call of a released function over a range, of which a circular address makes it circular."""
+    many = [values.get(address) for address in cells_of(area)]
+    return CYCLE if CYCLE in many else apply_function(function, [("many", many)])

@@ -2,8 +2,8 @@
 
 from labelgrid.addresses import SHEET
 from labelgrid.copies import address_dict_copy, grant_copy, rule_copy
-from labelgrid.entries import parse_entry
-from labelgrid.errors import EditError, EntryError
+from labelgrid.entries import is_entry
+from labelgrid.errors import EditError
 
 
 class Draft:
@@ -47,10 +47,8 @@ class Draft:
             return
         if user is None or not 0 <= user < self.users:
             raise EditError("user")
-        try:
-            parse_entry(text)
-        except EntryError:
-            raise EditError("text") from None
+        if not is_entry(text):
+            raise EditError("text")
 
     def check_rule(self, index, rule):
         """Raise EditError if a rule does not fit at an index."""

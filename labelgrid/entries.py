@@ -25,6 +25,15 @@ def parse_entry(text):
     return ("value", ("text", plain))
 
 
+def is_entry(text):
+    """Return whether a text is an entry or empty."""
+    try:
+        parse_entry(text)
+    except EntryError:
+        return False
+    return True
+
+
 def _constant_of(text):
     """Return the truth or number of a text, or None."""
     if text in TRUTHS:

@@ -68,13 +68,17 @@ class Flow:
         self._graphs = {}
         self._hidden = {}
 
-    def sees(self, user, address):
-        """Return whether a user sees an address."""
+    def unseen_set(self, user):
+        """Return the set of the addresses that are hidden from a user."""
         if user not in self._graphs:
             self._graphs[user] = _graph_of(self._hiding, user)
         if user not in self._hidden:
             self._hidden[user] = _hidden_of(self._hiding, self._graphs[user], user)
-        return not has_cell(self._hidden[user], address)
+        return self._hidden[user]
+
+    def sees(self, user, address):
+        """Return whether a user sees an address."""
+        return not has_cell(self.unseen_set(user), address)
 
     def label(self, address):
         """Return the label of an address."""

@@ -39,14 +39,17 @@ def calls_at(entries, address):
     return [(node, function, area) for area, node, function in uses if node is not None]
 
 
+def releases_of(grants, live, address, calls):
+    """Return the list of the quadruples of the releases of calls of one address by grants with some indexes."""
+    return [(address, node, index, list(grants[index][2]))
+            for node, function, area in calls for index in live if _fits(grants[index], function, area)]
+
+
 def released_calls(book):
     """Return the list of the quadruples (address, node, index of the grant, its users) of all releases."""
     _, _, entries, _, rules, grants = book
     live = live_grants(rules, grants)
     found = []
     for address in sorted(entries, key=place_key):
-        for node, function, area in calls_at(entries, address):
-            for index in live:
-                if _fits(grants[index], function, area):
-                    found.append((address, node, index, list(grants[index][2])))
+        found.extend(releases_of(grants, live, address, calls_at(entries, address)))
     return found

@@ -52,7 +52,7 @@ class Graph:
 
     def users_of(self, area):
         """Return the list of the formula cells that use an address of a range."""
-        return cells_in(self._users_of(area, 0))
+        return cells_in(self._users_of(area, self._cells))
 
     def used_formulas(self, address):
         """Return the list of the formula cells that an address uses."""
@@ -62,8 +62,8 @@ class Graph:
         """Return the list of the formula cells that reach an address of one of some ranges."""
         found = 0
         for area in areas:
-            found = found | self._users_of(area, found)
-        return cells_in(self._with_reaching(found))
+            found = found | self._users_of(area, self._cells & ~found)
+        return cells_in(self.with_reaching(found, self._cells))
 
     def reached(self, address):
         """Return the list of the formula cells that an address reaches."""
@@ -84,10 +84,20 @@ class Graph:
         for address in self._uses:
             if self._uses[address] & cells != 0:
                 found = found | bit_of(address)
-        return self._with_reaching(found)
+        return self.with_reaching(found, self._cells)
 
-    def _users_of(self, area, known):
-        """Return the set of the formula cells that use an address of a range, without those that are known."""
+    def with_reaching(self, found, within):
+        """Return a set of addresses with all formula cells of another set that reach one of them through it."""
+        waiting = found
+        while waiting != 0:
+            cell = first_in(waiting)
+            further = self._users_of((cell, cell), within & ~found)
+            found = found | further
+            waiting = (waiting ^ bit_of(cell)) | further
+        return found
+
+    def _users_of(self, area, among):
+        """Return the set of those formula cells of a set that use an address of a range."""
         (left, top), (right, bottom) = area
         in_columns = 0
         for users in self._by_column[left:right + 1]:
@@ -98,17 +108,7 @@ class Graph:
         wanted = mask_of(area)
         found = 0
         # A formula with several ranges may use the columns and the rows, but no address of this range.
-        for address in cells_in(in_columns & in_rows & ~known):
+        for address in cells_in(in_columns & in_rows & among):
             if self._uses[address] & wanted != 0:
                 found = found | bit_of(address)
-        return found
-
-    def _with_reaching(self, found):
-        """Return a set of formula cells with all formula cells that reach one of them."""
-        waiting = found
-        while waiting != 0:
-            cell = first_in(waiting)
-            further = self._users_of((cell, cell), found)
-            found = found | further
-            waiting = (waiting ^ bit_of(cell)) | further
         return found

@@ -38,10 +38,19 @@ class Hiding:
             self._closed[user] = refused_set(self._book[4], user, "read")
         return self._closed[user]
 
-    def hidden_ranges(self, user, address):
-        """Return the list of the ranges that the formula of an address uses, but for calls released to a user."""
+    def hidden_pairs(self, user, address):
+        """Return the list of the pairs of the range and the node of the uses that are not released to a user."""
         uses = self._lookup.uses_at(address)
-        return [area for area, _, function in uses if not self._is_released(user, function, area)]
+        return [(area, node) for area, node, function in uses if not self._is_released(user, function, area)]
+
+    def released_at(self, user, address):
+        """Return the list of the triples (node, function, range) of the calls that are released to a user."""
+        uses = self._lookup.uses_at(address)
+        return [(node, function, area) for area, node, function in uses if self._is_released(user, function, area)]
+
+    def hidden_ranges(self, user, address):
+        """Return the list of the ranges of the uses that are not released to a user."""
+        return [area for area, _ in self.hidden_pairs(user, address)]
 
     def hidden_set(self, user, address):
         """Return the set of the addresses of these ranges."""

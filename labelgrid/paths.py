@@ -18,35 +18,34 @@ def spread(first, formulas, uses_at):
     return found
 
 
-def first_path(start, goal, formulas, uses_at):
-    """Return the first one of the shortest paths from an address to one of a set, or None.
+def first_path(starts, goal, formulas, uses_at):
+    """Return the first one of the shortest paths from an address of a set to one of another set, or None.
 
-    A path is a list of at least two addresses, each but the last one of which uses the next one. Paths of equal
-    length are compared address by address, each pair row by row.
+    A path is a list of addresses, each but the last one of which is a formula cell that uses the next one. Paths of
+    equal length are compared address by address, each pair row by row.
     """
-    layers = [bit_of(start)]
-    found = layers[0]
+    layers = [starts]
+    found = starts
     uses = {}
-    while True:
+    while layers[-1] & goal == 0:
         ahead = 0
-        for cell in cells_in(layers[-1]):
+        for cell in cells_in(layers[-1] & formulas):
             uses[cell] = uses_at(cell)
             ahead = ahead | uses[cell]
-        if ahead & goal != 0:
-            return _path_through(layers, goal, uses)
-        further = ahead & formulas & ~found
+        further = ahead & ~found
         if further == 0:
             return None
         found = found | further
         layers.append(further)
+    return _path_through(layers, goal, uses)
 
 
 def _path_through(layers, goal, uses):
-    """Return the first path that has an address of each layer, and then one of the goal."""
-    steps = [goal]
-    for layer in reversed(layers):
+    """Return the first path that has an address of each layer, the last one of which is in the goal."""
+    steps = [layers[-1] & goal]
+    for layer in reversed(layers[:-1]):
         # Only these lead to the goal in the steps that are left.
-        leading = [cell for cell in cells_in(layer) if uses[cell] & steps[-1] != 0]
+        leading = [cell for cell in cells_in(layer) if uses.get(cell, 0) & steps[-1] != 0]
         steps.append(mask_of_cells(leading))
     steps = steps[::-1]
     path = [first_in(steps[0])]

@@ -10,9 +10,7 @@ def hidden_way(book, user, address):
     """Return the shortest way that hides an address from a user, or None."""
     hiding = Hiding(book)
     closed = hiding.closed_set(user)
-    if has_cell(closed, address):
-        return [address]
-    return first_path(address, closed, hiding.formula_set(), lambda cell: hiding.hidden_set(user, cell))
+    return first_path(bit_of(address), closed, hiding.formula_set(), lambda cell: hiding.hidden_set(user, cell))
 
 
 def way_right(book, user, address, way):

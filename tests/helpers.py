@@ -3,7 +3,7 @@
 import copy
 import random
 
-from labelgrid.addresses import SHEET, show_address, show_range
+from labelgrid.addresses import SHEET, parse_address, parse_range, show_address, show_range
 from labelgrid.edits import apply_edit, empty_book
 from labelgrid.errors import EditError
 from tests import spelled
@@ -202,9 +202,63 @@ def check_pure(test, function, *args):
     before = copy.deepcopy(args)
     found = function(*args)
     test.assertEqual(args, before)
-    test.assertEqual([box for box in boxes_in(found) if box in boxes_in(args)], [])
+    passed = boxes_in(args)
+    test.assertEqual([box for box in boxes_in(found) if box in passed], [])
     return found
 
 
 def source_of(seed):
     return random.Random(seed)
+
+
+def at(text):
+    return parse_address(text)
+
+
+def all_at(texts):
+    """The addresses of a text like "A1 B2"; None stays."""
+    return None if texts is None else [parse_address(text) for text in texts.split()]
+
+
+def area_of(text):
+    return parse_range(text)
+
+
+def num(n):
+    return ("num", n * 10000)
+
+
+def book_of(entries, rules=(), grants=(), users=3, authors=None):
+    """A book with entries at addresses by their names.
+
+    Everybody may read and write everything, and the user 0 owns it, but for the rules: texts of ranges with up to three
+    lists of users, [0] where they are missing. All authors are the user 0, but for those at addresses by their names.
+    """
+    made = {at(name): entries[name] for name in entries}
+    everybody = list(range(users))
+    listed = [(SHEET, everybody, list(everybody), [0])]
+    for text, *lists in rules:
+        lists = lists + [[0]] * (3 - len(lists))
+        listed.append((area_of(text), list(lists[0]), list(lists[1]), list(lists[2])))
+    writers = {cell: 0 for cell in made}
+    writers.update({at(name): user for name, user in (authors or {}).items()})
+    return ("book", users, made, writers, listed, list(grants))
+
+
+def grant_of(text, functions=("RSUM",), to=(1,), by=0, revoked=False):
+    return (area_of(text), list(functions), list(to), by, revoked)
+
+
+def random_changes(source, book, columns, rows, constants=40):
+    """A book that differs in the entries and authors of some addresses, and the list of these."""
+    entries, authors = dict(book[2]), dict(book[3])
+    cells = [(source.randrange(columns), source.randrange(rows)) for _ in range(source.randrange(4))]
+    for cell in cells:
+        if source.random() < 0.3:
+            entries.pop(cell, None)
+            authors.pop(cell, None)
+            continue
+        if cell not in entries or source.random() < 0.7:
+            entries[cell] = small_text(source, columns, rows, constants)
+        authors[cell] = source.randrange(book[1])
+    return ("book", book[1], entries, authors, book[4], book[5]), cells

@@ -1,8 +1,12 @@
 """The words of the document, spelled out slowly with sets, to test the program against them."""
 
+import functools
+import itertools
+
 from labelgrid.addresses import cells_of
 from labelgrid.entries import parse_entry
 from labelgrid.evaluating import evaluate
+from labelgrid.functions import apply_function, apply_operator
 
 OPERATORS = ["+", "-", "*", "/", "&", "=", "!=", "<", "<="]
 RELEASED = ["RSUM", "RCOUNT", "RAVG", "RMIN", "RMAX"]
@@ -188,3 +192,189 @@ def is_open_list(book, user, address, cells):
 def below(entries, address):
     """Point 52: the addresses of the entries on which an address rests."""
     return [cell for cell in row_by_row({address} | reached(edges_of(entries), address)) if cell in entries]
+
+
+def calls_of(book):
+    """The triples of address, node and range with the function of all calls that may be released."""
+    return [(cell, node, area, function) for cell in row_by_row(formula_cells(book[2]))
+            for area, node, function in uses(formula(book[2], cell)) if node is not None]
+
+
+def seen_if(book, user, address, calls):
+    """Point 72."""
+    edges = {}
+    for cell in formula_cells(book[2]):
+        def released(area, node, function):
+            return node is not None and ((cell, node) in calls or is_released(book, user, function, area))
+        edges[cell] = used(book[2], cell, released)
+    return sees(book, user, address, edges)
+
+
+def fewest_calls(book, user, address, most):
+    """Point 73: how many calls are enough at least, None if none are, or most + 1 for more than so many."""
+    calls = [(cell, node) for cell, node, area, function in calls_of(book) if not is_released(book, user, function, area)]
+    if not seen_if(book, user, address, calls):
+        return None
+    for count in range(min(most, len(calls)) + 1):
+        if any(seen_if(book, user, address, picked) for picked in itertools.combinations(calls, count)):
+            return count
+    return most + 1
+
+
+def is_step_way(book, user, address, way):
+    """Point 71."""
+    if not is_way(book, user, address, [cell for cell, _ in way]) or way[-1][1] is not None:
+        return False
+    for (here, node), (there, _) in zip(way, way[1:]):
+        found = [area for area, other, function in uses(formula(book[2], here)) if other == node
+                 and (node is None or not is_released(book, user, function, area))]
+        if not may(book, user, "read", here) or not any(inside(there, area) for area in found):
+            return False
+    return True
+
+
+def vouchers(book, endorsements):
+    """Point 56: a dict from the endorsed addresses to the sets of their endorsers."""
+    found, worth = {}, values(book[2])
+    for _, address, value, user in endorsements:
+        circular = worth.get(address) == ("error", "cycle")
+        if may(book, user, "own", address) and worth.get(address) == value and not circular:
+            found.setdefault(address, set()).add(user)
+    return found
+
+
+def leads_to(book, endorsed, address):
+    """Point 57: the set of the addresses to which an address leads."""
+    edges = {cell: edge for cell, edge in edges_of(book[2]).items() if cell not in endorsed}
+    return {address} | reached(edges, address)
+
+
+def trusted_sources(book, endorsements, address):
+    endorsed, users = vouchers(book, endorsements), set()
+    for cell in leads_to(book, endorsed, address):
+        users |= endorsed[cell] if cell in endorsed else {book[3][cell]} if cell in book[2] else set()
+    return sorted(users)
+
+
+def is_trust_way(book, endorsements, address, user, way):
+    """Point 59."""
+    endorsed = vouchers(book, endorsements)
+    for here, there in zip(way, way[1:]):
+        if here in endorsed or there not in used(book[2], here):
+            return False
+    if not way or way[0] != address:
+        return False
+    last = way[-1]
+    return user in endorsed[last] if last in endorsed else last in book[2] and book[3][last] == user
+
+
+def reaching(entries, addresses):
+    """The formula cells that reach one of some addresses."""
+    edges = edges_of(entries)
+    return {cell for cell in edges if reached(edges, cell) & set(addresses)}
+
+
+def compared(one, other):
+    """Point 65: -1, 0 or 1 as a value is less, equal or greater."""
+    kinds = [None, "num", "text", "bool", "error"]
+    left, right = [kinds.index(value and value[0]) for value in (one, other)]
+    if left != right:
+        return -1 if left < right else 1
+    if one == other:
+        return 0
+    return -1 if one[1] < other[1] else 1
+
+
+def answer(query, worth, seen):
+    """Points 64 and 65."""
+    ((left, top), (_, bottom)), filters, output = query
+    looked = [column for column, _, _ in filters] + list(output[1])
+    looked += [column for column, _ in output[2]] if output[0] == "rows" else [output[3]]
+
+    def value(row, column):
+        return worth.get((left + column, row))
+
+    def passes(row):
+        return all(apply_operator(sign, value(row, column), other) == ("bool", True) for column, sign, other in filters)
+
+    rows = [row for row in range(top, bottom + 1) if all((left + column, row) in seen for column in looked) and passes(row)]
+    if output[0] == "rows":
+        def before(one, other):
+            for column, direction in output[2]:
+                found = compared(value(one, column), value(other, column))
+                if found:
+                    return -found if direction == "down" else found
+            return one - other
+        rows.sort(key=functools.cmp_to_key(before))
+        return [(row, [value(row, column) for column in output[1]]) for row in rows]
+    groups = []
+    for row in rows:
+        key = [value(row, column) for column in output[1]]
+        if key not in groups:
+            groups.append(key)
+
+    def earlier(one, other):
+        return next((compared(left, right) for left, right in zip(one, other) if left != right), 0)
+
+    groups.sort(key=functools.cmp_to_key(earlier))
+    return [(key, apply_function(output[2], [("many", [value(row, output[3]) for row in rows
+                                                       if [value(row, column) for column in output[1]] == key])]))
+            for key in groups]
+
+
+def releases(book):
+    """Point 120, in the order of point 121."""
+    return [(cell, node, index, list(grant[2])) for cell, node, area, function in calls_of(book)
+            for index, grant in enumerate(book[5])
+            if is_live(book, grant) and grant[0] == area and function in grant[1]]
+
+
+def call_value(book, area, function):
+    """Points 124 and 135."""
+    many = [values(book[2]).get(cell) for cell in cells_of(area)]
+    if ("error", "cycle") in many:
+        return ("error", "cycle")
+    return apply_function(function, [("many", many)])
+
+
+def told_values(book, user):
+    """Point 124."""
+    return [(cell, node, call_value(book, area, function)) for cell, node, area, function in calls_of(book)
+            if may(book, user, "read", cell) and is_released(book, user, function, area)]
+
+
+def alike(user, book, other):
+    """Point 125."""
+    def readable(one):
+        return {cell: (one[2][cell], one[3][cell]) for cell in one[2] if may(one, user, "read", cell)}
+    return [book[at] == other[at] for at in (1, 4, 5)] == [True] * 3 and readable(book) == readable(other) \
+        and told_values(book, user) == told_values(other, user)
+
+
+def cuts(book, user, address):
+    """Point 123."""
+    through = {address} | reached(hidden_edges(book, user), address)
+    edges = edges_of(book[2])
+    areas = {(cell, node): area for cell, node, area, _ in calls_of(book)}
+
+    def is_deep(cell):
+        return not all(may(book, user, "read", other) for other in {cell} | reached(edges, cell))
+
+    return [found for found in releases(book) if user in found[3] and found[0] in through
+            and any(is_deep(cell) for cell in cells_of(areas[found[:2]]))]
+
+
+def seen_value(book, user, address):
+    """Point 84."""
+    return values(book[2]).get(address) if sees(book, user, address) else ("denied",)
+
+
+def seen_work(before, after, user, address):
+    """Point 85: cells are added as long as the property asks for them."""
+    fit = {cell for cell in after[2] if sees(before, user, cell) and sees(after, user, cell)}
+    edges, found = edges_of(after[2]), set()
+    while True:
+        more = {cell for cell in fit if cell == address or edges.get(cell, set()) & (found | {address})}
+        if more == found:
+            return row_by_row(found)
+        found = more

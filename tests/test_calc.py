@@ -2,26 +2,14 @@
 
 import unittest
 
-from labelgrid.addresses import SHEET, cells_of, parse_address, parse_range, show_address
+from labelgrid.addresses import SHEET, cells_of, parse_range, show_address
 from labelgrid.calc import Calc
 from labelgrid.denoting import denote, graph_of
 from labelgrid.errors import EntryError
 from tests import spelled
-from tests.helpers import random_range, small_entries, small_text, source_of
+from tests.helpers import all_at, at, num, random_range, small_entries, small_text, source_of
 
 CYCLE = ("error", "cycle")
-
-
-def num(n):
-    return ("num", n * 10000)
-
-
-def at(text):
-    return parse_address(text)
-
-
-def all_at(texts):
-    return [parse_address(text) for text in texts.split()]
 
 
 def calc_of(entries):

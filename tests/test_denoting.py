@@ -6,13 +6,9 @@ from labelgrid.addresses import SHEET, cells_of, parse_address, show_address
 from labelgrid.denoting import denote, graph_of
 from labelgrid.errors import EntryError
 from tests import spelled
-from tests.helpers import check_pure, small_entries, source_of
+from tests.helpers import check_pure, num, small_entries, source_of
 
 CYCLE = ("error", "cycle")
-
-
-def num(n):
-    return ("num", n * 10000)
 
 
 class DenoteTest(unittest.TestCase):

@@ -6,15 +6,11 @@ from labelgrid.entries import parse_entry
 from labelgrid.evaluating import entry_value, evaluate
 from labelgrid.numbers import MOST
 from labelgrid.trees import parse_formula
-from tests.helpers import check_pure, random_tree, source_of
+from tests.helpers import check_pure, num, random_tree, source_of
 
 ZERO, RANGE, VALUE = ("error", "zero"), ("error", "range"), ("error", "value")
 NAME, CYCLE = ("error", "name"), ("error", "cycle")
 TRUE, FALSE = ("bool", True), ("bool", False)
-
-
-def num(n):
-    return ("num", n * 10000)
 
 
 # A1 2, B1 0.5, C1 blank, A2 a text, B2 True, C2 blank, A3 and B3 errors.

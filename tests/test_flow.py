@@ -2,34 +2,26 @@
 
 import unittest
 
-from labelgrid.addresses import SHEET, cells_of, parse_address, parse_range, show_address
+from labelgrid.addresses import SHEET, cells_of, show_address
 from labelgrid.edits import apply_edit
 from labelgrid.flow import Flow, graph_for, hidden_cells, hidden_uses, label_of, labels, sees
 from labelgrid.shifting import Shift, inserted
 from tests import spelled
-from tests.helpers import called_areas, check_pure, small_book, small_grant, small_rule, small_text, source_of
+from tests.helpers import area_of, at, called_areas, check_pure, small_book, small_grant, small_rule, small_text, source_of
 
 A1 = (0, 0)
-
-
-def at(text):
-    return parse_address(text)
-
-
-def area(text):
-    return parse_range(text)
 
 
 def book_of(entries, rules=(), grants=(), users=3):
     """A book whose first rule gives everybody all rights; a rule is a range and its readers, with owner 0."""
     everybody = list(range(users))
     entries = {at(name): entries[name] for name in entries}
-    rules = [(SHEET, everybody, everybody, everybody)] + [(area(text), read, [0], [0]) for text, read in rules]
+    rules = [(SHEET, everybody, everybody, everybody)] + [(area_of(text), read, [0], [0]) for text, read in rules]
     return ("book", users, entries, {cell: 0 for cell in entries}, rules, list(grants))
 
 
 def grant(text, functions=("RSUM",), to=(1,), by=0, revoked=False):
-    return (area(text), list(functions), list(to), by, revoked)
+    return (area_of(text), list(functions), list(to), by, revoked)
 
 
 SECRET = [("B1:B9", [0])]
@@ -104,7 +96,7 @@ class LabelTest(unittest.TestCase):
                    {"A1": [0], "A2": [0, 1, 2], "A3": [0, 1]})
 
     def test_formulas_over_the_whole_sheet(self):
-        entries = {show_address(cell): "=SUM(A1:Z99)" for cell in cells_of(area("C1:Z50"))}
+        entries = {show_address(cell): "=SUM(A1:Z99)" for cell in cells_of(area_of("C1:Z50"))}
         book = book_of(entries)
         self.assertEqual((label_of(book, at("C1")), set(map(tuple, labels(book).values()))), ([0, 1, 2], {(0, 1, 2)}))
         book = book_of(entries, [("A99:A99", [1])])
@@ -155,13 +147,13 @@ class UsesTest(unittest.TestCase):
                        [], [grant("C1:C9", to=[1, 2]), grant("C1:C1", to=[2])])
         table = {0: "B1:B1 C1:C9 D1:D1 C1:C1 C1:C9", 1: "B1:B1 D1:D1 C1:C1", 2: "B1:B1 D1:D1"}
         for user, wanted in table.items():
-            self.assertEqual(check_pure(self, hidden_uses, book, user, A1), [area(text) for text in wanted.split()])
+            self.assertEqual(check_pure(self, hidden_uses, book, user, A1), [area_of(text) for text in wanted.split()])
             for name in ("A2", "A3", "A4", "Z9"):
                 self.assertEqual(hidden_uses(book, user, at(name)), [])
 
     def test_released_calls_of_what_may_be_read(self):
         book = book_of({"A1": "=RSUM(C1:C9)"}, [], [grant("C1:C9", to=[0])])
-        self.assertEqual([hidden_uses(book, user, A1) for user in range(3)], [[], [area("C1:C9")], [area("C1:C9")]])
+        self.assertEqual([hidden_uses(book, user, A1) for user in range(3)], [[], [area_of("C1:C9")], [area_of("C1:C9")]])
 
     def test_graph(self):
         source = source_of(51)
@@ -215,7 +207,7 @@ class FlowTest(unittest.TestCase):
                  (SECRET + [("A1:A2", [0, 1])], [grant("B1:B9", to=[1, 2])], ["A1:A1", "A2:A2"], [0, 1]), ([], [], ["A1:B99"], [0, 1, 2])]
         for rules, grants, areas, label in steps:
             book = book_of(entries, rules, grants)
-            self.assertIsNone(flow.turn_rules(book, [area(text) for text in areas]))
+            self.assertIsNone(flow.turn_rules(book, [area_of(text) for text in areas]))
             self.check(flow, book)
             self.assertEqual(flow.label(A1), label)
 
@@ -223,7 +215,7 @@ class FlowTest(unittest.TestCase):
         book = book_of({"A1": "=RSUM(B1:B9)"}, SECRET, [grant("B1:B9")])
         flow = Flow(book)
         self.assertEqual(flow.label(A1), [0, 1])
-        rule = (area("B3:B3"), [0], [0], [1])
+        rule = (area_of("B3:B3"), [0], [0], [1])
         book = apply_edit(book, ("rule", 2, rule))
         flow.turn_rules(book, [rule[0]])
         self.assertEqual(flow.label(A1), [0])
@@ -243,8 +235,8 @@ class FlowTest(unittest.TestCase):
         flow = Flow(book)
         self.assertEqual(flow.label(A1), [0, 1, 2])
         for place, label in [("Z99:Z99", [2]), ("Z98:Z99", [1])]:
-            book = book[:4] + (book[4][:1] + [(area(place), label, [], [])], [])
-            flow.turn_rules(book, [area("Z98:Z99")])
+            book = book[:4] + (book[4][:1] + [(area_of(place), label, [], [])], [])
+            flow.turn_rules(book, [area_of("Z98:Z99")])
             self.assertEqual((flow.label(A1), flow.label(cells[-1])), (label, label))
         book = apply_edit(book, ("cell", cells[9], "5", 0))
         flow.enter(book, [cells[9]])
@@ -319,10 +311,10 @@ class InsertionTest(unittest.TestCase):
 
     def test_new_addresses_may_be_hidden(self):
         book = book_of({"A1": "=SUM(C1:D1)"}, [("E1:Z1", [0]), ("A1:B9", [0, 1, 2])])
-        book = book[:4] + ([(SHEET, [0], [0], [0]), (area("A1:D9"), [0, 1], [0], [0])], [])
+        book = book[:4] + ([(SHEET, [0], [0], [0]), (area_of("A1:D9"), [0, 1], [0], [0])], [])
         self.assertEqual(label_of(book, A1), [0, 1])
         self.assertEqual(label_of(inserted(book, "column", 3, 1), A1), [0, 1])
-        book = book[:4] + ([(SHEET, [0], [0], [0]), (area("A1:C9"), [0, 1], [0], [0]), (area("D1:D9"), [0, 1], [0], [0])], [])
+        book = book[:4] + ([(SHEET, [0], [0], [0]), (area_of("A1:C9"), [0, 1], [0], [0]), (area_of("D1:D9"), [0, 1], [0], [0])], [])
         self.assertEqual(label_of(book, A1), [0, 1])
         self.assertEqual(label_of(inserted(book, "column", 3, 1), A1), [0])
 

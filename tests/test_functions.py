@@ -4,7 +4,7 @@ import unittest
 
 from labelgrid.functions import apply_function, apply_operator, negated
 from labelgrid.numbers import MOST
-from tests.helpers import check_pure
+from tests.helpers import check_pure, num
 
 ZERO, RANGE, VALUE = ("error", "zero"), ("error", "range"), ("error", "value")
 NAME, CYCLE = ("error", "name"), ("error", "cycle")
@@ -12,10 +12,6 @@ TRUE, FALSE = ("bool", True), ("bool", False)
 SIGNS = ["+", "-", "*", "/", "&", "=", "!=", "<", "<="]
 RANGED = ["SUM", "COUNT", "AVG", "MIN", "MAX", "AND", "OR", "JOIN"]
 RELEASED = ["RSUM", "RCOUNT", "RAVG", "RMIN", "RMAX"]
-
-
-def num(n):
-    return ("num", n * 10000)
 
 
 def text(characters):

@@ -2,22 +2,18 @@
 
 import unittest
 
-from labelgrid.addresses import SHEET, parse_address, parse_range
+from labelgrid.addresses import SHEET, parse_address
 from labelgrid.grants import calls_at, is_live, live_grants, released_calls, released_to, releasing
 from labelgrid.trees import RELEASED
 from tests import spelled
-from tests.helpers import boxes_in, check_pure, small_book, source_of
+from tests.helpers import area_of, boxes_in, check_pure, small_book, source_of
 
 
-def area(text):
-    return parse_range(text)
-
-
-RULES = [(SHEET, [0, 1, 2], [], [0, 1]), (area("B2:C3"), [0], [], [1]), (area("C3:D4"), [0], [], [0, 1, 2])]
+RULES = [(SHEET, [0, 1, 2], [], [0, 1]), (area_of("B2:C3"), [0], [], [1]), (area_of("C3:D4"), [0], [], [0, 1, 2])]
 
 
 def grant(text, functions=("RSUM",), to=(1, 2), by=1, revoked=False):
-    return (area(text), list(functions), list(to), by, revoked)
+    return (area_of(text), list(functions), list(to), by, revoked)
 
 
 class LiveTest(unittest.TestCase):
@@ -31,9 +27,9 @@ class LiveTest(unittest.TestCase):
     def test_the_giver_owns_the_range_no_more(self):
         given = grant("A1:A9")
         self.assertTrue(is_live(RULES, given))
-        self.assertFalse(is_live(RULES + [(area("A9:B9"), [0], [], [0, 2])], given))
-        self.assertTrue(is_live(RULES + [(area("A9:B9"), [0], [], [0, 2]), (area("A9:A9"), [], [], [1])], given))
-        self.assertTrue(is_live(RULES + [(area("A10:A10"), [], [], [])], given))
+        self.assertFalse(is_live(RULES + [(area_of("A9:B9"), [0], [], [0, 2])], given))
+        self.assertTrue(is_live(RULES + [(area_of("A9:B9"), [0], [], [0, 2]), (area_of("A9:A9"), [], [], [1])], given))
+        self.assertTrue(is_live(RULES + [(area_of("A10:A10"), [], [], [])], given))
 
     def test_live_grants(self):
         grants = [grant("A1:A9"), grant("A1:A9", revoked=True), grant("B2:B2", by=0), grant("C3:C3", by=2), grant("A1:A9")]
@@ -47,8 +43,8 @@ class ReleasingTest(unittest.TestCase):
               grant("A1:A1", ["RSUM"], [1]), grant("A1:A9", ["RMIN"], [])]
 
     def check(self, function, text, indexes, users):
-        self.assertEqual(check_pure(self, releasing, RULES, self.GRANTS, function, area(text)), indexes)
-        self.assertEqual(check_pure(self, released_to, RULES, self.GRANTS, function, area(text)), users)
+        self.assertEqual(check_pure(self, releasing, RULES, self.GRANTS, function, area_of(text)), indexes)
+        self.assertEqual(check_pure(self, released_to, RULES, self.GRANTS, function, area_of(text)), users)
 
     def test_ranges_and_functions(self):
         self.check("RSUM", "A1:A9", [0, 4], [0, 2])
@@ -65,7 +61,7 @@ class ReleasingTest(unittest.TestCase):
 class CallsTest(unittest.TestCase):
     def check(self, text, wanted):
         entries = {(4, 4): text} if text else {}
-        wanted = [(node, function, area(place)) for node, function, place in wanted]
+        wanted = [(node, function, area_of(place)) for node, function, place in wanted]
         self.assertEqual(check_pure(self, calls_at, entries, (4, 4)), wanted, text)
 
     def test_calls_that_may_be_released(self):

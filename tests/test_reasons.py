@@ -3,34 +3,22 @@
 import itertools
 import unittest
 
-from labelgrid.addresses import SHEET, cells_of, parse_address, parse_range, place_key, show_address
+from labelgrid.addresses import SHEET, cells_of, place_key, show_address
 from labelgrid.flow import hidden_uses, sees
 from labelgrid.reasons import blocking, hidden_way, open_cells, open_right, way_right
 from labelgrid.shifting import Shift, inserted
 from tests import spelled
-from tests.helpers import check_pure, small_book, source_of
-
-
-def at(text):
-    return parse_address(text)
-
-
-def all_at(texts):
-    return None if texts is None else [parse_address(text) for text in texts.split()]
-
-
-def area(text):
-    return parse_range(text)
+from tests.helpers import all_at, area_of, at, check_pure, small_book, source_of
 
 
 def book_of(entries, rules, grants=()):
     entries = {at(name): entries[name] for name in entries}
-    rules = [(SHEET, [0, 1, 2], [0], [0])] + [(area(text), read, [0], [0]) for text, read in rules]
+    rules = [(SHEET, [0, 1, 2], [0], [0])] + [(area_of(text), read, [0], [0]) for text, read in rules]
     return ("book", 3, entries, {cell: 0 for cell in entries}, rules, list(grants))
 
 
 SECRET = [("B1:B9", [0])]
-RELEASE = (area("B1:B2"), ["RSUM"], [1], 0, False)
+RELEASE = (area_of("B1:B2"), ["RSUM"], [1], 0, False)
 
 
 class WayTest(unittest.TestCase):

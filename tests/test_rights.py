@@ -2,19 +2,15 @@
 
 import unittest
 
-from labelgrid.addresses import SHEET, cells_of, parse_range, place_key, without
+from labelgrid.addresses import SHEET, cells_of, place_key, without
 from labelgrid.rights import (RIGHTS, allowed, allowed_all, may, may_all, parts_by_rule, refused_parts, refused_set, rule_at)
 from labelgrid.cellsets import cells_in
 from tests import spelled
-from tests.helpers import check_pure, random_range, small_rule, source_of
+from tests.helpers import area_of, check_pure, random_range, small_rule, source_of
 
 
-def area(text):
-    return parse_range(text)
-
-
-RULES = [(SHEET, [0, 1, 2], [0, 1], [0]), (area("B2:D4"), [0], [1], [2]), (area("C3:E5"), [], [0, 1, 2], [1, 2]),
-         (area("D4:D4"), [1], [], [0])]
+RULES = [(SHEET, [0, 1, 2], [0, 1], [0]), (area_of("B2:D4"), [0], [1], [2]), (area_of("C3:E5"), [], [0, 1, 2], [1, 2]),
+         (area_of("D4:D4"), [1], [], [0])]
 
 
 def random_rules(source, count):
@@ -28,7 +24,7 @@ class RightsTest(unittest.TestCase):
 
     def test_the_last_rule_counts(self):
         for text, index in {"A1": 0, "Z99": 0, "B2": 1, "C2": 1, "C3": 2, "D3": 2, "D4": 3, "E4": 2, "E5": 2, "F5": 0, "B4": 1}.items():
-            cell = area(f"{text}:{text}")[0]
+            cell = area_of(f"{text}:{text}")[0]
             self.assertEqual(check_pure(self, rule_at, RULES, cell), index, text)
             for place, right in enumerate(RIGHTS):
                 users = RULES[index][place + 1]
@@ -39,7 +35,7 @@ class RightsTest(unittest.TestCase):
     def test_a_later_rule_for_the_whole_sheet(self):
         rules = RULES + [(SHEET, [2], [], [])]
         self.assertEqual((rule_at(rules, (3, 3)), allowed(rules, "read", (0, 0)), allowed(rules, "own", (3, 3))), (4, [2], []))
-        self.assertEqual(parts_by_rule(rules, area("A1:Z9")), [(area("A1:Z9"), 4)])
+        self.assertEqual(parts_by_rule(rules, area_of("A1:Z9")), [(area_of("A1:Z9"), 4)])
 
     def check_parts(self, rules, place):
         parts = check_pure(self, parts_by_rule, rules, place)
@@ -51,28 +47,28 @@ class RightsTest(unittest.TestCase):
         return parts
 
     def test_parts(self):
-        self.assertEqual(self.check_parts(RULES, area("A1:A9")), [(area("A1:A9"), 0)])
-        self.assertEqual(self.check_parts(RULES, area("D4:D4")), [(area("D4:D4"), 3)])
-        self.assertEqual(self.check_parts(RULES, area("B2:B4")), [(area("B2:B4"), 1)])
-        self.assertEqual(self.check_parts(RULES, area("A3:C3")), [(area("A3:A3"), 0), (area("B3:B3"), 1), (area("C3:C3"), 2)])
-        self.check_parts(RULES, area("A1:F6"))
+        self.assertEqual(self.check_parts(RULES, area_of("A1:A9")), [(area_of("A1:A9"), 0)])
+        self.assertEqual(self.check_parts(RULES, area_of("D4:D4")), [(area_of("D4:D4"), 3)])
+        self.assertEqual(self.check_parts(RULES, area_of("B2:B4")), [(area_of("B2:B4"), 1)])
+        self.assertEqual(self.check_parts(RULES, area_of("A3:C3")), [(area_of("A3:A3"), 0), (area_of("B3:B3"), 1), (area_of("C3:C3"), 2)])
+        self.check_parts(RULES, area_of("A1:F6"))
         self.check_parts(RULES, SHEET)
         self.check_parts(RULES[:1], SHEET)
 
     def test_rights_on_ranges(self):
-        self.assertIs(may_all(RULES, 0, "read", area("A1:B3")), True)
-        self.assertIs(may_all(RULES, 0, "read", area("A1:C3")), False)
-        self.assertIs(may_all(RULES, 1, "read", area("D4:D4")), True)
-        self.assertIs(may_all(RULES, 1, "write", area("B2:C4")), True)
-        self.assertIs(may_all(RULES, 1, "write", area("B2:D4")), False)
+        self.assertIs(may_all(RULES, 0, "read", area_of("A1:B3")), True)
+        self.assertIs(may_all(RULES, 0, "read", area_of("A1:C3")), False)
+        self.assertIs(may_all(RULES, 1, "read", area_of("D4:D4")), True)
+        self.assertIs(may_all(RULES, 1, "write", area_of("B2:C4")), True)
+        self.assertIs(may_all(RULES, 1, "write", area_of("B2:D4")), False)
         self.assertIs(may_all(RULES, 7, "read", SHEET), False)
-        self.assertEqual(refused_parts(RULES, 0, "read", area("A3:C3")), [area("C3:C3")])
-        self.assertEqual(refused_parts(RULES, 2, "read", area("A3:C3")), [area("B3:B3"), area("C3:C3")])
-        self.assertEqual(refused_parts(RULES, 0, "read", area("A1:B3")), [])
-        self.assertEqual(allowed_all(RULES, "write", area("C2:C4"), 3), [1])
-        self.assertEqual(allowed_all(RULES, "write", area("A1:C4"), 3), [1])
-        self.assertEqual(allowed_all(RULES, "write", area("C3:C4"), 2), [0, 1])
-        self.assertEqual(allowed_all(RULES, "own", area("A1:Z99"), 3), [])
+        self.assertEqual(refused_parts(RULES, 0, "read", area_of("A3:C3")), [area_of("C3:C3")])
+        self.assertEqual(refused_parts(RULES, 2, "read", area_of("A3:C3")), [area_of("B3:B3"), area_of("C3:C3")])
+        self.assertEqual(refused_parts(RULES, 0, "read", area_of("A1:B3")), [])
+        self.assertEqual(allowed_all(RULES, "write", area_of("C2:C4"), 3), [1])
+        self.assertEqual(allowed_all(RULES, "write", area_of("A1:C4"), 3), [1])
+        self.assertEqual(allowed_all(RULES, "write", area_of("C3:C4"), 2), [0, 1])
+        self.assertEqual(allowed_all(RULES, "own", area_of("A1:Z99"), 3), [])
 
     def test_against_the_words_of_the_document(self):
         source = source_of(47)

@@ -2,7 +2,7 @@
 
 import unittest
 
-from labelgrid.addresses import SHEET, cells_of, parse_address, parse_range
+from labelgrid.addresses import SHEET, cells_of
 from labelgrid.denoting import denote
 from labelgrid.edits import apply_edit, empty_book
 from labelgrid.entries import parse_entry
@@ -10,17 +10,9 @@ from labelgrid.errors import EditError, GridError
 from labelgrid.shifting import Shift, deleted, inserted
 from labelgrid.trees import parse_formula, show_formula
 from tests import spelled
-from tests.helpers import check_pure, random_range, random_tree, small_book, source_of
+from tests.helpers import area_of, at, check_pure, random_range, random_tree, small_book, source_of
 
 A1, B2 = (0, 0), (1, 1)
-
-
-def at(text):
-    return parse_address(text)
-
-
-def area(text):
-    return parse_range(text)
 
 
 def book_of(entries, rules=(), grants=()):
@@ -30,7 +22,7 @@ def book_of(entries, rules=(), grants=()):
 
 
 def grant(text, revoked=False):
-    return (area(text), ["RSUM"], [1], 0, revoked)
+    return (area_of(text), ["RSUM"], [1], 0, revoked)
 
 
 class Told(unittest.TestCase):
@@ -71,7 +63,7 @@ class AddressTest(unittest.TestCase):
 class AreaTest(unittest.TestCase):
     def check(self, shift, table):
         for text, wanted in table.items():
-            self.assertEqual(shift.area(area(text)), wanted and area(wanted), text)
+            self.assertEqual(shift.area(area_of(text)), wanted and area_of(wanted), text)
 
     def test_inserted(self):
         self.check(Shift(True, "column", 2, 3), {"A1:B9": "A1:B9", "A1:C9": "A1:F9", "B1:D9": "B1:G9", "C1:C1": "F1:F1",
@@ -218,10 +210,10 @@ class EntryTest(Told):
 
 class RuleTest(unittest.TestCase):
     def check(self, doing, kind, start, count, table):
-        rules = [(area(text), [0], [1], []) for text in table]
+        rules = [(area_of(text), [0], [1], []) for text in table]
         made = check_pure(self, doing, book_of({}, rules), kind, start, count)[4]
         self.assertEqual(made[0], (SHEET, [0, 1], [0, 1], [0, 1]))
-        self.assertEqual(made[1:], [(area(text), [0], [1], []) for text in table.values() if text is not None])
+        self.assertEqual(made[1:], [(area_of(text), [0], [1], []) for text in table.values() if text is not None])
 
     def test_inserted(self):
         self.check(inserted, "column", 2, 3, {"A1:B2": "A1:B2", "A1:C1": "A1:F1", "C1:D2": "F1:G2", "A1:Z99": "A1:Z99",

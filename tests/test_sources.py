@@ -2,20 +2,12 @@
 
 import unittest
 
-from labelgrid.addresses import SHEET, cells_of, parse_address, show_address
+from labelgrid.addresses import SHEET, cells_of, show_address
 from labelgrid.denoting import denote
 from labelgrid.shifting import Shift, inserted
 from labelgrid.sources import addresses_below, borne_by, sources_of
 from tests import spelled
-from tests.helpers import check_pure, small_book, small_text, source_of
-
-
-def at(text):
-    return parse_address(text)
-
-
-def all_at(texts):
-    return [parse_address(text) for text in texts.split()]
+from tests.helpers import all_at, at, check_pure, small_book, small_text, source_of
 
 
 def book_of(table, users=4):

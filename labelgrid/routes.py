@@ -68,7 +68,7 @@ class Routes:
         while trail:
             node, is_back = trail[-1]
             if is_back and node is not None and self._field.is_end(node):
-                self._lay(trail)
+                self._add_route(trail)
                 return True
             ahead = self._step_from_back(node) if is_back else self._step_from_front(node)
             if ahead is None:
@@ -97,7 +97,7 @@ class Routes:
         self._backs = self._backs ^ (1 << other)
         return (other, True)
 
-    def _lay(self, trail):
+    def _add_route(self, trail):
         """Add a route along the trail of a search."""
         for at, (node, is_back) in enumerate(trail[1:], start=1):
             if not is_back and trail[at - 1][0] == node:

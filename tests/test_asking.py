@@ -168,6 +168,10 @@ class LedgerTest(unittest.TestCase):
         self.assertIs(ledger_right([], []), True)
         self.assertIs(ledger_right([], [(1, "RSUM", area_of("B1:B2"), 0)]), False)
 
+    def test_indexes_from_the_end(self):
+        for index, wanted in [(0, True), (1, False), (-1, False)]:
+            self.assertIs(ledger_right(self.BUDGETS[:1], [(1, "RSUM", area_of("B1:B2"), index)]), wanted)
+
 
 class SlowCounter(SlowDesk):
     """Points 134 to 136 word by word."""

@@ -218,7 +218,7 @@ class RuleTest(DeskTest):
         desk = Desk(book_of({"A1": "=RSUM(B1:B2)"}, [("B1:B2", [0], [0], [0, 1])]))
         for _ in range(3):
             self.check(desk, (1, "grant B1:B2", ["RSUM"], [2], ("ok",)))
-        self.check(desk, (2, "revoke", 0, RIGHTS), (2, "revoke", 3, NOTHING), (1, "revoke", 3, NOTHING), (1, "revoke", 0, ("ok",)), (1, "revoke", 0, NOTHING),
+        self.check(desk, (2, "revoke", 0, RIGHTS), (2, "revoke", 3, NOTHING), (1, "revoke", 3, NOTHING), (1, "revoke", -1, NOTHING), (1, "revoke", 0, ("ok",)), (1, "revoke", 0, NOTHING),
                    (2, "revoke", 0, NOTHING), (0, "revoke", 1, ("ok",)), (0, "revoke", 1, NOTHING), (2, "read A1:A1", ("values", [num(0)])))
         # The giver may revoke a grant also as no owner any more.
         self.check(desk, (0, "rule B1:B2", [0], [0], [0], ("ok",)), (2, "revoke", 2, RIGHTS), (1, "revoke", 2, ("ok",)), (2, "read A1:A1", ("values", [DENIED])))

@@ -240,15 +240,22 @@ class ViewTest(unittest.TestCase):
         found[0][1].append("x")
         found.clear()
         self.assertEqual(view.answer(), [(1, [num(1)]), (0, [num(2)])])
+        # The filter still counts.
+        view.turn({(0, 0): num(9), (0, 1): num(8)}, {cell: True for cell in cells_of(query[0])}, [(0, 0), (0, 1)])
+        self.assertEqual(view.answer(), [(1, [num(8)])])
         self.assertEqual([box for box in boxes_in(view.answer()) if box in boxes_in(view.answer())], [])
-        groups = (((0, 0), (1, 1)), [], ("groups", [0], "SUM", 1))
+        groups = (((0, 0), (1, 1)), [(0, "<", num(9))], ("groups", [0], "SUM", 1))
         values, seen = table([[num(2), num(1)], [num(1), num(2)]])
         view = QueryView(groups, values, seen)
+        groups[1].clear()
         groups[2][1].clear()
         view.answer()[0][0].clear()
         self.assertEqual(view.answer(), [([num(1)], num(2)), ([num(2)], num(1))])
         view.turn(values, seen, [(0, 0)]).append(7)
         self.assertEqual(view.turn(values, seen, [(0, 0)]), [0])
+        values[(0, 0)] = num(9)
+        view.turn(values, seen, [(0, 0)])
+        self.assertEqual(view.answer(), [([num(1)], num(2))])
 
     def test_great_tables(self):
         values = {cell: num((cell[0] * 7 + cell[1] * 3) % 11) for cell in cells_of(SHEET)}
